@@ -1,0 +1,1 @@
+"""Bloodlines: families, kinship, and what comes down in them."""
