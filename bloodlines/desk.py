@@ -41,61 +41,69 @@ class Call:
 class Answer:
     """An answer's number, its list and its text."""
 
-    def __init__(self, number, listed=(), text=()):
+    def __init__(self, number, listed, text):
         self.number = number
-        self.listed = list(listed)
-        self.text = list(text)
+        self.listed = listed
+        self.text = text
+
+
+def number_alone(number):
+    return Answer(number, [], [])
+
+
+def with_list(number, listed):
+    return Answer(number, listed, [])
 
 
 def answer_read(desk, call):
     if len(call.row) > LONGEST_TEXT:
-        return Answer(TEXT_TOO_LONG)
+        return number_alone(TEXT_TOO_LONG)
     fault = fault_of(call.row)
     if fault is not None:
-        return Answer(fault[0], [fault[1]])
+        return with_list(fault[0], [fault[1]])
     desk.family = family_of(call.row)
-    return Answer(0)
+    return number_alone(0)
 
 
 def answer_people(desk, call):
-    return Answer(len(desk.family.names))
+    return number_alone(len(desk.family.names))
 
 
 def answer_person(desk, call):
     person = call.persons[0]
     name = desk.family.names[person]
-    return Answer(len(name), [desk.family.sexes[person]] + desk.family.parents[person], name)
+    return Answer(len(name), [desk.family.sexes[person]] + desk.family.parents[person], list(name))
 
 
 def answer_find(desk, call):
     name = tuple(call.row)
     if name not in desk.family.names:
-        return Answer(NOBODY_FOUND)
-    return Answer(desk.family.names.index(name))
+        return number_alone(NOBODY_FOUND)
+    return number_alone(desk.family.names.index(name))
 
 
 def answer_kin(desk, call):
-    return Answer(0, kin_of(desk.family, call.persons[0], call.persons[1]))
+    return with_list(0, kin_of(desk.family, call.persons[0], call.persons[1]))
 
 
 def answer_inbred(desk, call):
-    return Answer(0, inbreeding_of(desk.family, call.persons[0]))
+    return with_list(0, inbreeding_of(desk.family, call.persons[0]))
 
 
 def answer_states(desk, call):
     told = states_of(desk.family, call.persons[0], call.persons[1])
-    return Answer(told[1], told[0])
+    return with_list(told[1], told[0])
 
 
 def answer_tie(desk, call):
     tie = tie_between(desk.family, call.persons[0], call.persons[1])
     if tie is None:
-        return Answer(0)
-    return Answer(1, tie)
+        return number_alone(0)
+    return with_list(1, tie)
 
 
 def answer_paths(desk, call):
-    return Answer(paths_up(desk.family, call.persons[0], call.persons[1]))
+    return number_alone(paths_up(desk.family, call.persons[0], call.persons[1]))
 
 
 ANSWERING = {
@@ -131,7 +139,7 @@ def refusal_of(desk, call):
 def answer_to(desk, call):
     refusal = refusal_of(desk, call)
     if refusal is not None:
-        return Answer(refusal)
+        return number_alone(refusal)
     return ANSWERING[call.number](desk, call)
 
 

@@ -53,6 +53,45 @@ def bound_names(tree_nodes):
     return found
 
 
+def is_plain_value(node):
+    """A whole number, a text, True, False or None; not a list, a tuple or a name."""
+    if isinstance(node, ast.UnaryOp) and isinstance(node.op, ast.USub):
+        return isinstance(node.operand, ast.Constant) and type(node.operand.value) is int
+    return isinstance(node, ast.Constant) and (node.value is None or type(node.value) in (int, str, bool))
+
+
+def lines_of_odd_defaults(tree_nodes):
+    """Where a default of a def or a lambda, in whatever place, is not a plain value."""
+    defaults = []
+    for node in tree_nodes:
+        if isinstance(node, ast.arguments):
+            defaults += node.defaults + [default for default in node.kw_defaults if default is not None]
+    return sorted(default.lineno for default in defaults if not is_plain_value(default))
+
+
+class Defaults(unittest.TestCase):
+    def odd(self, text):
+        return lines_of_odd_defaults(ast.walk(ast.parse(text)))
+
+    def test_of_the_package(self):
+        for path in files():
+            self.assertEqual(lines_of_odd_defaults(nodes(path)), [], path.name)
+
+    def test_others_are_found(self):
+        for odd in ("()", "(1,)", "[]", "[1]", "{}", "{1: 2}", "{1}", "READ", "list()", "1.5", "b''", "...", "-x",
+                    "1 + 1", "not True", "f''", "a.b", "lambda: 1"):
+            self.assertEqual(self.odd(f"def act(a, b={odd}):\n    pass"), [1], odd)
+            self.assertEqual(self.odd(f"kept = lambda a={odd}: a"), [1], odd)
+
+    def test_in_every_place(self):
+        self.assertEqual(self.odd("class Kept:\n    def __init__(self, number, listed=(), text=()):\n        pass"), [2, 2])
+        self.assertEqual(self.odd("def outer():\n    def inner(a, b=()):\n        pass"), [2])
+        self.assertEqual(self.odd("def act(a, *, b=()):\n    pass"), [1])
+
+    def test_plain_values_are_left(self):
+        self.assertEqual(self.odd("def act(a, b=0, c=-1, d='', e=True, f=False, g=None):\n    pass"), [])
+
+
 class Language(unittest.TestCase):
     def test_files(self):
         self.assertTrue(files())
