@@ -1,6 +1,9 @@
 """The calls on one object, laid out as numbers, and their answers, laid out likewise."""
 
+from bloodlines.by_chance import drop_by_chance, first_missing
 from bloodlines.descent import inbreeding_of, kin_of, states_of
+from bloodlines.drops import chance_of, first_contradiction, pairs_that_can_be, worlds_of
+from bloodlines.place import Place, may_be_place, pairs_in, pairs_seen
 from bloodlines.reading import family_of, fault_of
 from bloodlines.relations import paths_up, tie_between
 
@@ -13,28 +16,42 @@ INBRED = 6
 STATES = 7
 TIE = 8
 PATHS = 9
+PLACE = 10
+SEE = 11
+SEEN = 12
+CAN = 13
+FIRST = 14
+WORLDS = 15
+CHANCE = 16
+DROP = 17
 
 LONGEST_TEXT = 16384
 
 TEXT_TOO_LONG = -1
 NOBODY_FOUND = -1
+NO_SUCH_PLACE = -1
+NO_CONTRADICTION = -1
 NO_SUCH_PERSON = -2
+NONE_AGREES = -3
+NO_PLACE = -4
+ANSWERS_RUN_OUT = -5
 NO_FAMILY = -8
 
 
 class Desk:
-    """The object that the calls are made on: its family, or None."""
+    """The object that the calls are made on: its family, or None, and its place, or None."""
 
     def __init__(self):
         self.family = None
+        self.place = None
 
 
 class Call:
-    """A call's number, its whole numbers (each of them a person), and its row (empty if it takes none)."""
+    """A call's number, its whole numbers, and its row (empty if it takes none)."""
 
-    def __init__(self, number, persons, row):
+    def __init__(self, number, whole_numbers, row):
         self.number = number
-        self.persons = persons
+        self.whole_numbers = whole_numbers
         self.row = row
 
 
@@ -62,6 +79,7 @@ def answer_read(desk, call):
     if fault is not None:
         return with_list(fault[0], [fault[1]])
     desk.family = family_of(call.row)
+    desk.place = None
     return number_alone(0)
 
 
@@ -70,7 +88,7 @@ def answer_people(desk, call):
 
 
 def answer_person(desk, call):
-    person = call.persons[0]
+    person = call.whole_numbers[0]
     name = desk.family.names[person]
     return Answer(len(name), [desk.family.sexes[person]] + desk.family.parents[person], list(name))
 
@@ -83,27 +101,79 @@ def answer_find(desk, call):
 
 
 def answer_kin(desk, call):
-    return with_list(0, kin_of(desk.family, call.persons[0], call.persons[1]))
+    return with_list(0, kin_of(desk.family, call.whole_numbers[0], call.whole_numbers[1]))
 
 
 def answer_inbred(desk, call):
-    return with_list(0, inbreeding_of(desk.family, call.persons[0]))
+    return with_list(0, inbreeding_of(desk.family, call.whole_numbers[0]))
 
 
 def answer_states(desk, call):
-    told = states_of(desk.family, call.persons[0], call.persons[1])
+    told = states_of(desk.family, call.whole_numbers[0], call.whole_numbers[1])
     return with_list(told[1], told[0])
 
 
 def answer_tie(desk, call):
-    tie = tie_between(desk.family, call.persons[0], call.persons[1])
+    tie = tie_between(desk.family, call.whole_numbers[0], call.whole_numbers[1])
     if tie is None:
         return number_alone(0)
     return with_list(1, tie)
 
 
 def answer_paths(desk, call):
-    return number_alone(paths_up(desk.family, call.persons[0], call.persons[1]))
+    return number_alone(paths_up(desk.family, call.whole_numbers[0], call.whole_numbers[1]))
+
+
+def with_pairs(pairs):
+    """The answer that tells how many pairs there are, and p and m of each."""
+    listed = []
+    for pair in pairs:
+        listed.extend(pair)
+    return with_list(len(pairs), listed)
+
+
+def answer_place(desk, call):
+    by_sex = call.whole_numbers[0]
+    if not may_be_place(by_sex, call.row):
+        return number_alone(NO_SUCH_PLACE)
+    desk.place = Place(by_sex, call.row, {})
+    return number_alone(0)
+
+
+def answer_see(desk, call):
+    desk.place.seen[call.whole_numbers[0]] = pairs_in(desk.place, call.row)
+    return number_alone(0)
+
+
+def answer_seen(desk, call):
+    return with_pairs(pairs_seen(desk.place, call.whole_numbers[0]))
+
+
+def answer_can(desk, call):
+    return with_pairs(pairs_that_can_be(desk.family, desk.place, call.whole_numbers[0]))
+
+
+def answer_first(desk, call):
+    person = first_contradiction(desk.family, desk.place)
+    return number_alone(NO_CONTRADICTION if person is None else person)
+
+
+def answer_worlds(desk, call):
+    return with_list(0, [worlds_of(desk.family, desk.place)])
+
+
+def answer_chance(desk, call):
+    chance = chance_of(desk.family, desk.place, call.whole_numbers[0], call.row)
+    if chance is None:
+        return number_alone(NONE_AGREES)
+    return with_list(0, chance)
+
+
+def answer_drop(desk, call):
+    missing = first_missing(desk.family, desk.place, call.row)
+    if missing is not None:
+        return with_list(ANSWERS_RUN_OUT, missing)
+    return with_pairs(drop_by_chance(desk.family, desk.place, call.row))
 
 
 ANSWERING = {
@@ -116,12 +186,30 @@ ANSWERING = {
     STATES: answer_states,
     TIE: answer_tie,
     PATHS: answer_paths,
+    PLACE: answer_place,
+    SEE: answer_see,
+    SEEN: answer_seen,
+    CAN: answer_can,
+    FIRST: answer_first,
+    WORLDS: answer_worlds,
+    CHANCE: answer_chance,
+    DROP: answer_drop,
 }
 
 # How many whole numbers follow a call's number, before its row.
-WHOLE_NUMBERS = {READ: 0, PEOPLE: 0, PERSON: 1, FIND: 0, KIN: 2, INBRED: 1, STATES: 2, TIE: 2, PATHS: 2}
+WHOLE_NUMBERS = {
+    READ: 0, PEOPLE: 0, PERSON: 1, FIND: 0, KIN: 2, INBRED: 1, STATES: 2, TIE: 2, PATHS: 2,
+    PLACE: 1, SEE: 1, SEEN: 1, CAN: 1, FIRST: 0, WORLDS: 0, CHANCE: 1, DROP: 0,
+}
 
-CALLS_WITH_ROW = (READ, FIND)
+CALLS_WITH_ROW = (READ, FIND, PLACE, SEE, CHANCE, DROP)
+
+CALLS_AT_PLACE = (SEE, SEEN, CAN, FIRST, WORLDS, CHANCE, DROP)
+
+
+def persons_of(call):
+    """The call's whole numbers that are persons: all but those of place, which says whether it goes by sex."""
+    return [] if call.number == PLACE else call.whole_numbers
 
 
 def refusal_of(desk, call):
@@ -130,9 +218,10 @@ def refusal_of(desk, call):
         return None
     if desk.family is None:
         return NO_FAMILY
-    for person in call.persons:
-        if person >= len(desk.family.names):
-            return NO_SUCH_PERSON
+    if any([person >= len(desk.family.names) for person in persons_of(call)]):
+        return NO_SUCH_PERSON
+    if call.number in CALLS_AT_PLACE and desk.place is None:
+        return NO_PLACE
     return None
 
 
@@ -150,13 +239,13 @@ def calls_in(numbers):
     while at < len(numbers):
         number = numbers[at]
         end = at + 1 + WHOLE_NUMBERS[number]
-        persons = numbers[at + 1:end]
+        whole_numbers = numbers[at + 1:end]
         row = []
         if number in CALLS_WITH_ROW:
             row_start = end + 1
             end = row_start + numbers[end]
             row = numbers[row_start:end]
-        found.append(Call(number, persons, row))
+        found.append(Call(number, whole_numbers, row))
         at = end
     return found
 

@@ -4,24 +4,30 @@
 class Family:
     """Of each person the name (a tuple of bytes), the sex, and [] or [father, mother]; nobody descends from themselves.
 
-    youngest_first has all persons, each before their own parents.
+    oldest_first has all persons, each behind their own parents; youngest_first is the other way round.
     """
 
     def __init__(self, names, sexes, parents):
         self.names = names
         self.sexes = sexes
         self.parents = parents
-        self.youngest_first = children_before_parents(parents)
+        self.oldest_first = parents_before_children(parents)
+        self.youngest_first = list(reversed(self.oldest_first))
 
 
-def children_before_parents(parents):
-    """All persons in such an order, if nobody is among their own forebears."""
+def parents_before_children(parents):
+    """All persons, each time the lowest whose parents are there already; nobody is among their own forebears."""
     placed = {}
     while len(placed) < len(parents):
-        for person, pair in enumerate(parents):
-            if all([parent in placed for parent in pair]):
-                placed[person] = True
-    return list(reversed(list(placed)))
+        placed[lowest_to_place(parents, placed)] = True
+    return list(placed)
+
+
+def lowest_to_place(parents, placed):
+    person = 0
+    while person in placed or not all([parent in placed for parent in parents[person]]):
+        person += 1
+    return person
 
 
 def least_steps_up(parents, person):

@@ -84,7 +84,7 @@ class Defaults(unittest.TestCase):
             self.assertEqual(self.odd(f"kept = lambda a={odd}: a"), [1], odd)
 
     def test_in_every_place(self):
-        self.assertEqual(self.odd("class Kept:\n    def __init__(self, number, listed=(), text=()):\n        pass"), [2, 2])
+        self.assertEqual(self.odd("class Kept:\n    def __init__(self, listed=(), text=()):\n        pass"), [2, 2])
         self.assertEqual(self.odd("def outer():\n    def inner(a, b=()):\n        pass"), [2])
         self.assertEqual(self.odd("def act(a, *, b=()):\n    pass"), [1])
 
@@ -163,6 +163,21 @@ class Language(unittest.TestCase):
             for node in tree_nodes:
                 if isinstance(node, ast.Name):
                     self.assertIn(node.id, bound | set(PYTHONS_NAMES), path.name)
+
+    def test_no_local_is_called_like_a_class_or_an_import(self):
+        for path in files():
+            taken = set()
+            local = set()
+            for node in nodes(path):
+                if isinstance(node, ast.ClassDef):
+                    taken.add(node.name)
+                elif isinstance(node, ast.ImportFrom):
+                    taken |= {alias.name for alias in node.names}
+                elif isinstance(node, ast.arg):
+                    local.add(node.arg)
+                elif isinstance(node, ast.Name) and isinstance(node.ctx, ast.Store):
+                    local.add(node.id)
+            self.assertFalse(taken & local, path.name)
 
     def test_each_name_of_a_file_is_bound_once(self):
         for path in files():
